@@ -1,0 +1,1 @@
+"""Graphs drawn in the plane, or why they can't be."""

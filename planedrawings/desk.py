@@ -1,0 +1,108 @@
+"""The calls of planedrawings.
+
+Edge e has the points edges[2 * e] and edges[2 * e + 1], and dart d goes from the point edges[d]; the dart that goes
+back from d is d ^ 1. A drawing is a list with, for each dart, the dart that follows it round the point they go from.
+"""
+
+MOST_POINTS = 256
+MOST_EDGES = 1024
+
+
+def planar(n, edges):
+    """Answer [1] where the graph has a plane drawing, [0] where it has none, [-1] where there is no graph."""
+    if not is_graph(n, edges):
+        return [-1]
+    if has_plane_drawing(edges):
+        return [1]
+    return [0]
+
+
+def is_graph(n, edges):
+    """Tell whether n and edges are a graph as the document says."""
+    if n < 0 or n > MOST_POINTS or len(edges) > 2 * MOST_EDGES:
+        return False
+    seen = {}
+    for dart in range(0, len(edges), 2):
+        low = min(edges[dart], edges[dart + 1])
+        high = max(edges[dart], edges[dart + 1])
+        if low < 0 or high >= n or low == high or (low, high) in seen:
+            return False
+        seen[(low, high)] = True
+    return True
+
+
+def has_plane_drawing(edges):
+    """Tell whether the graph has a plane drawing, by drawing one edge after the other in every way."""
+    # A plane drawing stays plane when an edge is taken out of it, so one that is not plane is not worth going on with.
+    wanted = [plane_face_count(edges[:2 * drawn]) for drawn in range(len(edges) // 2 + 1)]
+    waiting = [[]]
+    while len(waiting) > 0:
+        following = waiting.pop()
+        if len(following) == len(edges):
+            return True
+        for longer in drawings_with_one_more_edge(edges, following):
+            if face_count(longer) == wanted[len(longer) // 2]:
+                waiting.append(longer)
+    return False
+
+
+def plane_face_count(edges):
+    """How many faces a plane drawing of these edges has."""
+    # A point without edges counts one on both sides of the document's sum, so only points with edges are looked at.
+    parts = part_of_points(edges)
+    part_count = len([point for point in parts if parts[point] == point])
+    return 2 * part_count - len(parts) + len(edges) // 2
+
+
+def part_of_points(edges):
+    """For each point that has edges, one point of its connected part: the same for all points of that part."""
+    parts = {}
+    for dart in range(0, len(edges), 2):
+        kept = parts.setdefault(edges[dart], edges[dart])
+        given_up = parts.setdefault(edges[dart + 1], edges[dart + 1])
+        for point in list(parts):
+            if parts[point] == given_up:
+                parts[point] = kept
+    return parts
+
+
+def drawings_with_one_more_edge(edges, following):
+    """All drawings that a drawing of the first edges becomes when the next edge is drawn too."""
+    there = len(following)
+    back = there + 1
+    drawings = []
+    for ahead_of_there in places_for_dart(edges, following, there):
+        for ahead_of_back in places_for_dart(edges, following, back):
+            longer = following + [there, back]
+            put_behind(longer, ahead_of_there, there)
+            put_behind(longer, ahead_of_back, back)
+            drawings.append(longer)
+    return drawings
+
+
+def places_for_dart(edges, following, dart):
+    """The drawn darts behind which the new dart may come round its point; itself, where it is alone there."""
+    drawn = [other for other in range(len(following)) if edges[other] == edges[dart]]
+    if len(drawn) == 0:
+        return [dart]
+    return drawn
+
+
+def put_behind(following, ahead, dart):
+    """Put a dart that is still alone into the round of the dart ahead of it."""
+    following[dart] = following[ahead]
+    following[ahead] = dart
+
+
+def face_count(following):
+    """How many faces a drawing has."""
+    count = 0
+    seen = [False for dart in following]
+    for start in range(len(following)):
+        if not seen[start]:
+            count += 1
+        dart = start
+        while not seen[dart]:
+            seen[dart] = True
+            dart = following[dart ^ 1]
+    return count
