@@ -17,6 +17,15 @@ def planar(n, edges):
     return [0]
 
 
+def check(n, edges, following):
+    """Answer [1] where following is a plane drawing, [0] where it is one that is not plane, [-1] where it is none."""
+    if not is_graph(n, edges) or not is_drawing(edges, following):
+        return [-1]
+    if face_count(following) == plane_face_count(edges):
+        return [1]
+    return [0]
+
+
 def is_graph(n, edges):
     """Tell whether n and edges are a graph as the document says."""
     if n < 0 or n > MOST_POINTS or len(edges) > 2 * MOST_EDGES:
@@ -29,6 +38,33 @@ def is_graph(n, edges):
             return False
         seen[(low, high)] = True
     return True
+
+
+def is_drawing(edges, following):
+    """Tell whether following leads round all darts of each point, each once."""
+    for dart in range(len(edges)):
+        if following[dart] < 0 or following[dart] >= len(edges) or edges[following[dart]] != edges[dart]:
+            return False
+    return all([is_one_round(darts, following) for darts in darts_by_point(edges).values()])
+
+
+def darts_by_point(edges):
+    """For each point that has edges, the darts that go from it."""
+    leaving = {}
+    for dart in range(len(edges)):
+        leaving.setdefault(edges[dart], []).append(dart)
+    return leaving
+
+
+def is_one_round(darts, following):
+    """Tell whether following leads from the first of these darts over all the others back to it."""
+    # Where it never comes back, only the count of the steps ends the walk.
+    dart = following[darts[0]]
+    steps = 1
+    while dart != darts[0] and steps < len(darts):
+        dart = following[dart]
+        steps += 1
+    return dart == darts[0] and steps == len(darts)
 
 
 def has_plane_drawing(edges):

@@ -6,12 +6,10 @@ import time
 import unittest
 from itertools import combinations
 
-from graphs import K33, complete, divided, factorial_product, flat, has_plane_drawing_by_definition
-from graphs import is_asked, moved, variants, without
+from graphs import HIGHEST, K33, LOWEST, KeptList, complete, divided, factorial_product, flat
+from graphs import has_plane_drawing_by_definition, is_asked, moved, variants, without
 from planedrawings.desk import planar
 
-LOWEST = -2147483648
-HIGHEST = 2147483647
 K5 = complete(5)
 MOEBIUS_LADDER = [(point, (point + 1) % 8) for point in range(8)] + [(point, point + 4) for point in range(4)]
 
@@ -19,16 +17,6 @@ MOEBIUS_LADDER = [(point, (point + 1) % 8) for point in range(8)] + [(point, poi
 MOST_PLANE = ([(0, point) for point in range(1, 6)] + [(point, point % 5 + 1) for point in range(1, 6)]
               + [(1, 6), (1, 7), (6, 8), (6, 9)])
 MOST_NOT_PLANE = divided(K33, [K33.index((1, 5))], 6) + [(0, 6), (0, 1), (1, 7), (8, 9)]
-
-
-class KeptList(list):
-    """A list that fails the test when it is changed, even if it's changed back afterwards."""
-
-    def refuse(self, *arguments, **named):
-        raise AssertionError("the list that was handed in was changed")
-
-    __setitem__ = __delitem__ = __iadd__ = __imul__ = refuse
-    append = clear = extend = insert = pop = remove = reverse = sort = refuse
 
 
 class PlanarCase(unittest.TestCase):
