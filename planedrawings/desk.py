@@ -26,6 +26,13 @@ def check(n, edges, following):
     return [0]
 
 
+def faces(n, edges, following):
+    """Answer how many faces the drawing has, then the number of each dart's face, or [-1] where there is no drawing."""
+    if not is_graph(n, edges) or not is_drawing(edges, following):
+        return [-1]
+    return [face_count(following)] + face_of_darts(following)
+
+
 def is_graph(n, edges):
     """Tell whether n and edges are a graph as the document says."""
     if n < 0 or n > MOST_POINTS or len(edges) > 2 * MOST_EDGES:
@@ -132,13 +139,18 @@ def put_behind(following, ahead, dart):
 
 def face_count(following):
     """How many faces a drawing has."""
-    count = 0
-    seen = [False for dart in following]
-    for start in range(len(following)):
-        if not seen[start]:
-            count += 1
-        dart = start
-        while not seen[dart]:
-            seen[dart] = True
-            dart = following[dart ^ 1]
-    return count
+    return max(face_of_darts(following), default=-1) + 1
+
+
+def face_of_darts(following):
+    """For each dart of a drawing the number of its face, in the order of the faces' lowest darts."""
+    found = 0
+    numbers = [-1 for dart in following]
+    for lowest in range(len(following)):
+        if numbers[lowest] == -1:
+            dart = lowest
+            while numbers[dart] == -1:
+                numbers[dart] = found
+                dart = following[dart ^ 1]
+            found += 1
+    return numbers

@@ -5,7 +5,7 @@ A drawing is kept as (n, pairs, rounds): rounds[point] holds the point's neighbo
 
 from math import atan2
 
-from graphs import HIGHEST, K33, LOWEST, complete, moved, named_variants, without
+from graphs import HIGHEST, K33, LOWEST, complete, flat, moved, named_variants, without
 
 K5 = complete(5)
 CUBE = [(a, b) for a, b in complete(8) if a ^ b in (1, 2, 4)]
@@ -150,6 +150,35 @@ def no_drawings_of_a_star(count):
                     for place in range(count)])
         # All darts lead into a round without the first of them.
         yield star([place + 1 if place < count - 1 else size for place in range(count)])
+
+
+def no_drawings():
+    """What may be handed in but is no drawing of its graph, as (n, edges, following)."""
+    triangle = [0, 1, 1, 2, 2, 0]
+    for following in ([-1, 2, 1, 4, 3, 0], [6, 2, 1, 4, 3, 0], [5, 2, 1, 4, 3, -6], [0, 1, 2, 3, 4, 5],
+                      [1, 2, 5, 4, 3, 0], [5, 2, 1, 4, 3, 5], [0, 2, 1, 4, 3, 0], [0, 2, 1, 4, 3, 5]):
+        yield 3, triangle, following
+    for following in ([1, 0], [0, 0], [0, 2], [-2, -1], [LOWEST, HIGHEST]):
+        yield 2, [0, 1], following
+        yield 256, [255, 0], following
+    for n, pairs, rounds in list(plane_drawings()) + list(drawings_not_plane()):
+        edges = flat(pairs)
+        for following in no_drawings_from(edges, following_of(edges, rounds)):
+            yield n, edges, following
+    for count in (2, 3, 4, 5, 12):
+        yield from no_drawings_of_a_star(count)
+    yield from no_drawings_of_two_parts()
+
+
+def no_drawings_of_two_parts():
+    edges = flat(complete(4) + moved(complete(4), 4))
+    good = following_of(flat(complete(4)), K4_PLANE)
+    for wrong in no_drawings_from(flat(complete(4)), good):
+        if min(wrong) >= 0 and max(wrong) < 12:
+            yield 8, edges, good + [dart + 12 for dart in wrong]
+            yield 8, edges, wrong + [dart + 12 for dart in good]
+    # Each part's darts are followed by those of the other.
+    yield 8, edges, [dart + 12 for dart in good] + good
 
 
 def whatever(edges):

@@ -124,15 +124,30 @@ def all_drawings(edges):
 
 
 def faces_of(following):
+    """How many faces there are."""
+    return len(face_sets(following))
+
+
+def face_sets(following):
+    """The faces as sets of darts."""
+    faces = []
     left = set(range(len(following)))
-    count = 0
     while left:
-        count += 1
-        dart = min(left)
+        face = []
+        dart = max(left)
         while dart in left:
             left.remove(dart)
+            face.append(dart)
             dart = following[dart + 1 if dart % 2 == 0 else dart - 1]
-    return count
+        faces.append(set(face))
+    return faces
+
+
+def faces_by_definition(following):
+    """What faces answers for a drawing."""
+    numbered = sorted(face_sets(following), key=min)
+    return [len(numbered)] + [number for dart in range(len(following))
+                              for number, face in enumerate(numbered) if dart in face]
 
 
 def connected_parts(n, edges):
