@@ -33,6 +33,15 @@ def faces(n, edges, following):
     return [face_count(following)] + face_of_darts(following)
 
 
+def why(n, edges, part):
+    """Answer [1] where the edges at part are a reason, [0] where they are none, [-1] where there is no graph."""
+    if not is_graph(n, edges) or len(part) > MOST_EDGES:
+        return [-1]
+    if are_edges_told_once(edges, part) and is_reason(edges, part):
+        return [1]
+    return [0]
+
+
 def is_graph(n, edges):
     """Tell whether n and edges are a graph as the document says."""
     if n < 0 or n > MOST_POINTS or len(edges) > 2 * MOST_EDGES:
@@ -52,14 +61,16 @@ def is_drawing(edges, following):
     for dart in range(len(edges)):
         if following[dart] < 0 or following[dart] >= len(edges) or edges[following[dart]] != edges[dart]:
             return False
-    return all([is_one_round(darts, following) for darts in darts_by_point(edges).values()])
+    every_edge = list(range(len(edges) // 2))
+    return all([is_one_round(darts, following) for darts in darts_by_point(edges, every_edge).values()])
 
 
-def darts_by_point(edges):
-    """For each point that has edges, the darts that go from it."""
+def darts_by_point(edges, part):
+    """For each point that the edges at part have, the darts of these edges that go from it."""
     leaving = {}
-    for dart in range(len(edges)):
-        leaving.setdefault(edges[dart], []).append(dart)
+    for edge in part:
+        for dart in (2 * edge, 2 * edge + 1):
+            leaving.setdefault(edges[dart], []).append(dart)
     return leaving
 
 
@@ -154,3 +165,57 @@ def face_of_darts(following):
                 dart = following[dart ^ 1]
             found += 1
     return numbers
+
+
+def are_edges_told_once(edges, part):
+    """Tell whether each number of part is an edge's, and none stands there twice."""
+    for edge in part:
+        if edge < 0 or edge >= len(edges) // 2:
+            return False
+    return len(set(part)) == len(part)
+
+
+def is_reason(edges, part):
+    """Tell whether these edges, each told once, are K5 or K3,3 with its lines divided."""
+    # A line is divided at points of just two edges, so the ways run between the others. What the ways leave over are
+    # rounds with points of two edges alone. Each way is walked from both of its ends.
+    leaving = darts_by_point(edges, part)
+    joined = {}
+    walked = 0
+    for point in leaving:
+        if len(leaving[point]) != 2:
+            ways = [way_from(edges, leaving, dart) for dart in leaving[point]]
+            joined[point] = sorted([edges[way[-1] ^ 1] for way in ways])
+            walked += sum([len(way) for way in ways])
+    return walked == 2 * len(part) and (are_five(joined) or are_three_and_three(joined))
+
+
+def way_from(edges, leaving, dart):
+    """The darts of the way that begins with this one, up to the first point that has not just two edges."""
+    way = [dart]
+    while len(leaving[edges[dart ^ 1]]) == 2:
+        pair = leaving[edges[dart ^ 1]]
+        dart = pair[1] if pair[0] == dart ^ 1 else pair[0]
+        way.append(dart)
+    return way
+
+
+def are_five(joined):
+    """Tell whether these are five points, each joined to each other one by just one way."""
+    points = sorted(joined)
+    return len(points) == 5 and all([joined[point] == without(points, [point]) for point in points])
+
+
+def are_three_and_three(joined):
+    """Tell whether these are three points and three others, each joined to each of the others by just one way."""
+    points = sorted(joined)
+    if len(points) != 6:
+        return False
+    others = joined[points[0]]
+    first = without(points, others)
+    return len(first) == 3 and all([joined[point] == (first if point in others else others) for point in points])
+
+
+def without(points, left_out):
+    """The points that are not among those left out."""
+    return [point for point in points if point not in left_out]
